@@ -1,0 +1,1 @@
+"""Offices chosen by turns, among parties that govern together."""

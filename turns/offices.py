@@ -1,0 +1,55 @@
+"""Who chooses when, as parties that govern together choose offices by turns."""
+
+MOST_OFFICES = 5
+MOST_PARTIES = 4
+MOST_SEATS = 200
+MOST_WORTH = 50
+NOT_AS_TOLD = -22
+
+
+def order(n, seats, worth):
+    """How many offices there are, then whose turn it is, one behind another."""
+    if not as_told(n, seats, worth):
+        return [NOT_AS_TOLD]
+    return [n] + choosers(n, seats)
+
+
+def as_told(n, seats, worth):
+    """Whether offices, seats and worths are such as the calls take."""
+    if n > MOST_OFFICES:
+        return False
+    if len(seats) < 1 or len(seats) > MOST_PARTIES:
+        return False
+    if len(worth) != n * len(seats):
+        return False
+    return within(seats, 1, MOST_SEATS) and within(worth, 0, MOST_WORTH)
+
+
+def within(numbers, least, most):
+    """Whether none of the numbers is below the least or above the most."""
+    for number in numbers:
+        if number < least or number > most:
+            return False
+    return True
+
+
+def choosers(n, seats):
+    """The party of each of n turns."""
+    had = [0] * len(seats)
+    parties = []
+    for turn in range(n):
+        party = party_on_turn(seats, had)
+        parties.append(party)
+        had[party] = had[party] + 1
+    return parties
+
+
+def party_on_turn(seats, had):
+    """The party that chooses when each has had so many offices."""
+    best = 0
+    for party in range(1, len(seats)):
+        # Crosswise products keep the quotients exact; a division would round unlike ones to like ones.
+        # Only a greater quotient displaces, so of like ones the first party stays.
+        if seats[party] * (had[best] + 1) > seats[best] * (had[party] + 1):
+            best = party
+    return best
