@@ -1,4 +1,4 @@
-"""Who chooses when, as parties that govern together choose offices by turns."""
+"""Who chooses when and who takes what, as parties that govern together choose offices by turns."""
 
 MOST_OFFICES = 5
 MOST_PARTIES = 4
@@ -12,6 +12,13 @@ def order(n, seats, worth):
     if not as_told(n, seats, worth):
         return [NOT_AS_TOLD]
     return [n] + choosers(n, seats)
+
+
+def plain(n, seats, worth):
+    """How many offices there are, then, turn by turn, which of them is taken plainly."""
+    if not as_told(n, seats, worth):
+        return [NOT_AS_TOLD]
+    return [n] + taken_plainly(n, choosers(n, seats), worth)
 
 
 def as_told(n, seats, worth):
@@ -52,4 +59,25 @@ def party_on_turn(seats, had):
         # Only a greater quotient displaces, so of like ones the first party stays.
         if seats[party] * (had[best] + 1) > seats[best] * (had[party] + 1):
             best = party
+    return best
+
+
+def taken_plainly(n, parties, worth):
+    """The office of each turn, if the party on turn takes the one that is worth most to it."""
+    free = list(range(n))
+    taken = []
+    for party in parties:
+        own_worth = worth[party * n:party * n + n]
+        office = worth_most(free, own_worth)
+        taken.append(office)
+        free.remove(office)
+    return taken
+
+
+def worth_most(free, own_worth):
+    """The free office that is worth most; free ones stand by number, so of like ones the first stays."""
+    best = free[0]
+    for office in free:
+        if own_worth[office] > own_worth[best]:
+            best = office
     return best
