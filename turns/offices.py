@@ -21,6 +21,13 @@ def plain(n, seats, worth):
     return [n] + taken_plainly(n, choosers(n, seats), worth)
 
 
+def ahead(n, seats, worth):
+    """How many offices there are, then, turn by turn, which of them is taken if all choose ahead."""
+    if not as_told(n, seats, worth):
+        return [NOT_AS_TOLD]
+    return [n] + taken_ahead(n, choosers(n, seats), worth)
+
+
 def as_told(n, seats, worth):
     """Whether offices, seats and worths are such as the calls take."""
     if n > MOST_OFFICES:
@@ -81,3 +88,44 @@ def worth_most(free, own_worth):
         if own_worth[office] > own_worth[best]:
             best = office
     return best
+
+
+def taken_ahead(n, parties, worth):
+    """The office of each turn, if the party on turn takes the one by which it gets most in the end."""
+    # What is free at a later turn lies within what is free now, so what follows each choice is found already.
+    follows = {(): []}
+    for free in parts_of_offices(n):
+        courses = [[office] + follows[without(free, office)] for office in free]
+        follows[free] = best_course(n, parties[n - len(free):], courses, worth)
+    return follows[tuple(range(n))]
+
+
+def parts_of_offices(n):
+    """Some or all of n offices, by number, in every way; each part stands behind those that lie within it."""
+    parts = [()]
+    for office in range(n):
+        parts = parts + [part + (office,) for part in parts]
+    return parts[1:]
+
+
+def without(offices, office):
+    """The offices but one."""
+    return tuple([other for other in offices if other != office])
+
+
+def best_course(n, parties, courses, worth):
+    """The course that brings most to the first of these parties; of like ones the first stays."""
+    best = courses[0]
+    for course in courses:
+        if gets(n, parties[0], parties, course, worth) > gets(n, parties[0], parties, best, worth):
+            best = course
+    return best
+
+
+def gets(n, party, parties, offices, worth):
+    """What a party's offices are worth to it, together, as these parties take these offices turn by turn."""
+    together = 0
+    for chooser, office in zip(parties, offices):
+        if chooser == party:
+            together = together + worth[party * n + office]
+    return together
