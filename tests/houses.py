@@ -103,17 +103,19 @@ def many():
 
 
 class HoldsForEveryCall:
-    """What every call on a house keeps to; a test case beside it has `call`."""
+    """What every call on a house keeps to; a test case beside it has `call`, and `check_answered` where not n leads."""
 
     def test_what_is_not_as_told_is_refused(self):
         for house in refused():
             self.assertEqual(self.call(*house), [-22], house)
 
+    def check_answered(self, house, answer):
+        self.assertEqual(answer[0], house[0], house)
+        self.assertEqual(len(answer), 1 + house[0], house)
+
     def test_what_is_only_just_as_told_is_answered(self):
         for house in at_the_edge():
-            answer = self.call(*house)
-            self.assertEqual(answer[0], house[0], house)
-            self.assertEqual(len(answer), 1 + house[0], house)
+            self.check_answered(house, self.call(*house))
 
     def test_what_is_handed_in_is_not_changed(self):
         for n, seats, worth in [*at_the_edge(), *refused(), *many()]:

@@ -5,6 +5,7 @@ MOST_PARTIES = 4
 MOST_SEATS = 200
 MOST_WORTH = 50
 NOT_AS_TOLD = -22
+NO_SUCH_PARTY = -2
 
 
 def order(n, seats, worth):
@@ -25,7 +26,19 @@ def ahead(n, seats, worth):
     """How many offices there are, then, turn by turn, which of them is taken if all choose ahead."""
     if not as_told(n, seats, worth):
         return [NOT_AS_TOLD]
-    return [n] + taken_ahead(n, choosers(n, seats), worth)
+    return [n] + taken_ahead(n, choosers(n, seats), worth, list(range(len(seats))))
+
+
+def alone(n, i, seats, worth):
+    """What party i gets if it alone chooses ahead and all others plainly, then what it gets if all choose plainly."""
+    if not as_told(n, seats, worth):
+        return [NOT_AS_TOLD]
+    if i >= len(seats):
+        return [NO_SUCH_PARTY]
+    parties = choosers(n, seats)
+    looking = gets(n, i, parties, taken_ahead(n, parties, worth, [i]), worth)
+    plainly = gets(n, i, parties, taken_plainly(n, parties, worth), worth)
+    return [looking, plainly]
 
 
 def as_told(n, seats, worth):
@@ -74,11 +87,15 @@ def taken_plainly(n, parties, worth):
     free = list(range(n))
     taken = []
     for party in parties:
-        own_worth = worth[party * n:party * n + n]
-        office = worth_most(free, own_worth)
+        office = worth_most(free, worths_of(n, party, worth))
         taken.append(office)
         free.remove(office)
     return taken
+
+
+def worths_of(n, party, worth):
+    """What each office is worth to a party."""
+    return worth[party * n:party * n + n]
 
 
 def worth_most(free, own_worth):
@@ -90,13 +107,17 @@ def worth_most(free, own_worth):
     return best
 
 
-def taken_ahead(n, parties, worth):
-    """The office of each turn, if the party on turn takes the one by which it gets most in the end."""
+def taken_ahead(n, parties, worth, lookers):
+    """The office of each turn, if the lookers take the one by which they get most in the end, all others plainly."""
     # What is free at a later turn lies within what is free now, so what follows each choice is found already.
     follows = {(): []}
     for free in parts_of_offices(n):
-        courses = [[office] + follows[without(free, office)] for office in free]
-        follows[free] = best_course(n, parties[n - len(free):], courses, worth)
+        left = parties[n - len(free):]
+        weighed = list(free)
+        if left[0] not in lookers:
+            weighed = [worth_most(free, worths_of(n, left[0], worth))]
+        courses = [[office] + follows[without(free, office)] for office in weighed]
+        follows[free] = best_course(n, left, courses, worth)
     return follows[tuple(range(n))]
 
 
