@@ -102,6 +102,16 @@ def many():
             yield n, seats, spread(n * len(seats), start * 6 + n, most)
 
 
+def flat(worths):
+    """The worths of each party, one behind another, as the calls take them."""
+    return [number for own in worths for number in own]
+
+
+def gets(party, parties, way, n, worth):
+    """What a party gets if these parties take the offices of this way, turn by turn."""
+    return sum(worth[party * n + office] for chooser, office in zip(parties, way) if chooser == party)
+
+
 class HoldsForEveryCall:
     """What every call on a house keeps to; a test case beside it has `call`, and `check_answered` where not n leads."""
 

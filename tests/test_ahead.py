@@ -2,11 +2,8 @@ import unittest
 from itertools import permutations
 
 import houses
+from houses import flat, gets
 from turns.offices import ahead, order, plain
-
-
-def gets(party, parties, way, n, worth):
-    return sum(worth[party * n + office] for chooser, office in zip(parties, way) if chooser == party)
 
 
 def ends_of_all_ways(n, parties, worth):
@@ -22,11 +19,11 @@ def ends_of_all_ways(n, parties, worth):
 
 class Taken(unittest.TestCase):
     def check(self, seats, worths, offices):
-        worth = [number for own in worths for number in own]
+        worth = flat(worths)
         self.assertEqual(ahead(len(offices), seats, worth), [len(offices)] + offices)
 
     def check_unlike_plain(self, seats, worths, offices, plain_offices):
-        worth = [number for own in worths for number in own]
+        worth = flat(worths)
         self.check(seats, worths, offices)
         self.assertEqual(plain(len(offices), seats, worth), [len(offices)] + plain_offices)
         self.assertNotEqual(offices, plain_offices)

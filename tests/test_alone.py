@@ -1,15 +1,12 @@
 import unittest
 
 import houses
+from houses import flat, gets
 from turns.offices import alone, order
 
 
 def worth_most(free, party, n, worth):
     return sorted(free, key=lambda office: (-worth[party * n + office], office))[0]
-
-
-def gets(party, parties, way, n, worth):
-    return sum(worth[party * n + office] for chooser, office in zip(parties, way) if chooser == party)
 
 
 def all_ways(n, i, parties, worth):
@@ -37,7 +34,7 @@ def plainly(n, i, parties, worth):
 class Gets(unittest.TestCase):
     def check(self, seats, worths, answers):
         """The answers are those for each party, one behind another."""
-        worth = [number for own in worths for number in own]
+        worth = flat(worths)
         for i, answer in enumerate(answers):
             self.assertEqual(alone(len(worths[0]), i, seats, worth), answer, i)
         self.assertEqual(len(answers), len(seats))

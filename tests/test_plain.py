@@ -1,6 +1,7 @@
 import unittest
 
 import houses
+from houses import flat
 from turns.offices import order, plain
 
 
@@ -18,8 +19,7 @@ def by_ranked_offices(n, parties, worth):
 
 class Taken(unittest.TestCase):
     def check(self, seats, worths, offices):
-        worth = [number for own in worths for number in own]
-        self.assertEqual(plain(len(offices), seats, worth), [len(offices)] + offices)
+        self.assertEqual(plain(len(offices), seats, flat(worths)), [len(offices)] + offices)
 
     def test_two_parties(self):
         # Turns: 0, 1, 0.

@@ -6,6 +6,8 @@ MOST_SEATS = 200
 MOST_WORTH = 50
 NOT_AS_TOLD = -22
 NO_SUCH_PARTY = -2
+PLAINLY = 0
+AHEAD = 1
 
 
 def order(n, seats, worth):
@@ -19,14 +21,14 @@ def plain(n, seats, worth):
     """How many offices there are, then, turn by turn, which of them is taken plainly."""
     if not as_told(n, seats, worth):
         return [NOT_AS_TOLD]
-    return [n] + taken_plainly(n, choosers(n, seats), worth)
+    return [n] + taken_by_all(n, PLAINLY, choosers(n, seats), worth)
 
 
 def ahead(n, seats, worth):
     """How many offices there are, then, turn by turn, which of them is taken if all choose ahead."""
     if not as_told(n, seats, worth):
         return [NOT_AS_TOLD]
-    return [n] + taken_ahead(n, choosers(n, seats), worth, list(range(len(seats))))
+    return [n] + taken_by_all(n, AHEAD, choosers(n, seats), worth)
 
 
 def alone(n, i, seats, worth):
@@ -39,6 +41,15 @@ def alone(n, i, seats, worth):
     looking = gets(n, i, parties, taken_ahead(n, parties, worth, [i]), worth)
     plainly = gets(n, i, parties, taken_plainly(n, parties, worth), worth)
     return [looking, plainly]
+
+
+def gains(n, k, seats, worth):
+    """How many parties there are, then what each gets if all choose plainly (k 0) or ahead (k 1)."""
+    if k > AHEAD or not as_told(n, seats, worth):
+        return [NOT_AS_TOLD]
+    parties = choosers(n, seats)
+    offices = taken_by_all(n, k, parties, worth)
+    return [len(seats)] + [gets(n, party, parties, offices, worth) for party in range(len(seats))]
 
 
 def as_told(n, seats, worth):
@@ -80,6 +91,13 @@ def party_on_turn(seats, had):
         if seats[party] * (had[best] + 1) > seats[best] * (had[party] + 1):
             best = party
     return best
+
+
+def taken_by_all(n, k, parties, worth):
+    """The office of each turn, if all choose plainly or all ahead."""
+    if k == AHEAD:
+        return taken_ahead(n, parties, worth, parties)
+    return taken_plainly(n, parties, worth)
 
 
 def taken_plainly(n, parties, worth):
