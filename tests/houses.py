@@ -4,6 +4,41 @@ from itertools import product
 
 GREATEST = 4294967295
 
+# Houses in which, ahead, some would rather swap: seats, worths, and the pairs.
+WITH_PAIRS = [
+    # Turns: 0, 1, 0, 0, 1. Offices: 4, 0, 1, 2, 3.
+    ([18, 12], [[2, 25, 7, 3, 2], [2, 3, 3, 3, 20]], [(3, 4)]),
+    ([60, 40], [[5, 12, 20, 6, 2], [1, 3, 3, 3, 23]], [(0, 4), (3, 4)]),
+    # Turns: 0, 1, 2, 0. Offices: 1, 2, 0, 3.
+    ([7, 7, 7], [[6, 5, 2, 4], [3, 9, 8, 6], [6, 9, 0, 3]], [(0, 1)]),
+    # Turns: 2, 1, 0, 2. Offices: 1, 2, 3, 0.
+    ([20, 30, 40], [[3, 7, 0, 6], [3, 5, 5, 2], [5, 3, 2, 4]], [(1, 3)]),
+    # Turns: 0, 1, 2, 0, 1. Offices: 2, 3, 4, 1, 0.
+    ([50, 40, 30], [[1, 9, 3, 1, 6], [0, 8, 6, 9, 1], [2, 1, 6, 6, 3]], [(2, 4)]),
+    # Turns: 0, 1, 2, 0, 1. Offices: 3, 0, 2, 4, 1.
+    ([50, 40, 30], [[11, 7, 6, 6, 16], [10, 13, 4, 15, 17], [8, 4, 8, 6, 8]], [(0, 3), (1, 3)]),
+    # Turns: 0, 0, 1, 2, 0. Offices: 1, 2, 3, 0, 4.
+    ([90, 40, 35], [[20, 16, 12, 5, 18], [4, 17, 18, 14, 6], [4, 19, 17, 0, 4]], [(0, 1), (0, 2)]),
+    # Turns: 0, 2, 0, 0, 2. Offices: 4, 0, 1, 2, 3; party 1 gets none.
+    ([37, 1, 20], [[0, 3, 3, 2, 0], [2, 2, 12, 0, 1], [0, 2, 2, 2, 16]], [(3, 4)]),
+    # Turns: 0, 1, 0, 0, 1. Offices: 4, 0, 1, 2, 3; party 2 gets none.
+    ([60, 40, 1], [[2, 9, 11, 6, 1], [4, 7, 7, 7, 16], [16, 17, 9, 9, 1]], [(0, 4), (3, 4)]),
+    # Turns: 0, 1, 2, 0. Offices: 0, 3, 1, 2; party 3 gets none.
+    ([50, 50, 30, 1], [[6, 8, 6, 3], [6, 1, 0, 3], [8, 5, 5, 3], [9, 1, 3, 8]], [(0, 1)]),
+    # Turns: 0, 1, 2, 3, 0. Offices: 0, 3, 1, 4, 2.
+    ([200] * 4, [[7, 9, 8, 0, 1], [8, 4, 1, 5, 5], [9, 5, 2, 0, 0], [3, 7, 0, 4, 7]], [(0, 1)]),
+    # Turns: 0, 1, 2, 3, 0. Offices: 4, 2, 3, 1, 0. Two parties would each swap for party 0's office 4.
+    ([200] * 4, [[8, 9, 2, 7, 6], [6, 2, 7, 3, 8], [4, 4, 4, 7, 8], [4, 5, 4, 6, 6]], [(1, 4), (3, 4)]),
+    # Turns: 0, 1, 2, 3, 0. Offices: 0, 2, 3, 4, 1.
+    ([200] * 4, [[5, 8, 1, 6, 6], [9, 2, 8, 4, 7], [9, 3, 4, 8, 6], [9, 2, 1, 9, 6]], [(0, 3), (0, 4)]),
+    # Turns: 2, 1, 3, 0, 2. Offices: 2, 4, 0, 3, 1. Office 2 is the greater of one pair and the lesser of the other.
+    (
+        [30, 45, 53, 44],
+        [[23, 16, 29, 27, 15], [1, 6, 27, 0, 12], [24, 28, 3, 5, 2], [4, 1, 16, 1, 1]],
+        [(0, 2), (2, 3)],
+    ),
+]
+
 
 class Untouched(list):
     """A list that fails the test as soon as anything is changed in it, be it for a while."""
@@ -110,6 +145,15 @@ def flat(worths):
 def gets(party, parties, way, n, worth):
     """What a party gets if these parties take the offices of this way, turn by turn."""
     return sum(worth[party * n + office] for chooser, office in zip(parties, way) if chooser == party)
+
+
+def near_those_with_pairs():
+    """Houses that differ in one worth, or in none, from those with pairs, so that many of them have pairs, too."""
+    for seats, worths, pairs in WITH_PAIRS:
+        n = len(worths[0])
+        for other in (0, 1, 2, 4, 5, 7, 9, 14, 20, 50):
+            for worth in with_one_other(flat(worths), other):
+                yield n, seats, worth
 
 
 class HoldsForEveryCall:

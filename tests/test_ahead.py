@@ -135,7 +135,7 @@ class Taken(unittest.TestCase):
         self.check([60, 40, 1], [[10, 9, 0], [0, 10, 9], [0, 50, 0]], [1, 2, 0])
 
     def test_the_same_as_by_a_search_of_all_ways(self):
-        for n, seats, worth in houses.many():
+        for n, seats, worth in [*houses.many(), *houses.near_those_with_pairs()]:
             parties = order(n, seats, worth)[1:]
             ends = ends_of_all_ways(n, parties, worth)
             self.assertEqual(ahead(n, seats, worth), [n, *ends[()]], (n, seats, worth))
@@ -143,11 +143,11 @@ class Taken(unittest.TestCase):
 
 class WhatHolds(unittest.TestCase):
     def test_each_office_goes_to_one_party(self):
-        for n, seats, worth in houses.many():
+        for n, seats, worth in [*houses.many(), *houses.near_those_with_pairs()]:
             self.assertEqual(sorted(ahead(n, seats, worth)[1:]), list(range(n)), (n, seats, worth))
 
     def test_nobody_would_at_their_turn_get_more_by_another_office(self):
-        for n, seats, worth in houses.many():
+        for n, seats, worth in [*houses.many(), *houses.near_those_with_pairs()]:
             parties = order(n, seats, worth)[1:]
             ends = ends_of_all_ways(n, parties, worth)
             way = tuple(ahead(n, seats, worth)[1:])

@@ -52,6 +52,18 @@ def gains(n, k, seats, worth):
     return [len(seats)] + [gets(n, party, parties, offices, worth) for party in range(len(seats))]
 
 
+def swaps(n, k, seats, worth):
+    """How many pairs of offices two parties would swap, then these, if all choose plainly (k 0) or ahead (k 1)."""
+    if k > AHEAD or not as_told(n, seats, worth):
+        return [NOT_AS_TOLD]
+    parties = choosers(n, seats)
+    pairs = pairs_to_swap(n, holders_of(parties, taken_by_all(n, k, parties, worth)), worth)
+    answer = [len(pairs)]
+    for pair in pairs:
+        answer.extend(pair)
+    return answer
+
+
 def as_told(n, seats, worth):
     """Whether offices, seats and worths are such as the calls take."""
     if n > MOST_OFFICES:
@@ -168,3 +180,28 @@ def gets(n, party, parties, offices, worth):
         if chooser == party:
             together = together + worth[party * n + office]
     return together
+
+
+def holders_of(parties, offices):
+    """The party that has each office, office by office, as these parties take these offices turn by turn."""
+    holders = [0] * len(offices)
+    for party, office in zip(parties, offices):
+        holders[office] = party
+    return holders
+
+
+def pairs_to_swap(n, holders, worth):
+    """The pairs of offices, the lesser first, by it, then by the greater, that both holders would rather swap."""
+    pairs = []
+    for lesser in range(n):
+        for greater in range(lesser + 1, n):
+            # Of one party's own two offices not each is worth more than the other, so these never make a pair.
+            if (would_rather(n, holders[lesser], greater, lesser, worth)
+                    and would_rather(n, holders[greater], lesser, greater, worth)):
+                pairs.append((lesser, greater))
+    return pairs
+
+
+def would_rather(n, party, other, own, worth):
+    """Whether the other office is worth more to a party than its own."""
+    return worth[party * n + other] > worth[party * n + own]
